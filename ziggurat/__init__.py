@@ -1,0 +1,1 @@
+"""Ziggurat: a tower of interpreters that change one another, and its collapse."""

@@ -10,6 +10,9 @@ INTERFACE = {
     "errors.py": {"ZigguratError": None, "LimitError": None, "FormError": None, "ParseError": None},
     "forms.py": {"is_well_formed": ["program"], "size": ["program"], "height": ["program"]},
     "texts.py": {"parse": ["text"], "print_program": ["program"]},
+    "tower.py": {"run": ["program", "fuel"]},
+    "plain.py": {"run_plain": ["plain", "fuel"], "plain_size": ["plain"]},
+    "collapsing.py": {"collapse": ["program"]},
 }
 
 

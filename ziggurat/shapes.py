@@ -55,3 +55,8 @@ def inner_expressions(node):
         elif place == "parts":
             found.extend([("expr", part) for part in thing])
     return found
+
+
+def part_of(node, number):
+    """Return the part of a number of an expression of a changeable kind."""
+    return node[2] if node[0] == "let" else node[1 + number]

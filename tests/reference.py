@@ -164,6 +164,10 @@ def plainly_run_plain(plain, fuel):
     return clock.run(lambda: evaluate(plain, {}))
 
 
+class Fixed(tuple):
+    """An expression in a collapse that is not itself a collapse of anything, so that no force stands for it."""
+
+
 class Expansion:
     """The collapse of a program without delays: all that is due stands at each of its places."""
 
@@ -239,12 +243,12 @@ class Expansion:
         if node[0] == "with":
             y = self.fresh()
             body = self.collapse(below[3], level, path + (3,), {**names, below[1]: y}, about)
-            return ("let", y, inner(1), ("tick", body))
+            return ("let", y, inner(1), Fixed(("tick", body)))
         chosen = [self.fresh() for _ in node[1]]
-        made = ("tick", (below[0], level) + tuple([("name", y) for y in chosen]))
+        made = Fixed(("tick", Fixed((below[0], level) + tuple([Fixed(("name", y)) for y in chosen]))))
         for k in reversed(range(len(chosen))):
-            made = ("let", chosen[k], inner(1, k), made)
-        return made
+            made = Fixed(("let", chosen[k], inner(1, k), made))
+        return tuple(made)
 
 
 def with_even_names(plain):
@@ -282,6 +286,46 @@ def without_delays(plain):
     return forced(plain, {})
 
 
+def plainly_is_collapse(program, plain):
+    """Whether something that is plain in form is a collapse; compares with the whole collapse without delays."""
+    def fits(q, tree, names, delays):
+        """names lead to the names of the tree, delays to what is delayed and the names and delays that it has."""
+        if q[0] == "force":
+            if isinstance(tree, Fixed) or q[1] not in delays:
+                return False
+            return fits(delays[q[1]][0], tree, *delays[q[1]][1:])
+        while q[0] == "delay" and tree[0] == "switch":
+            delays = {**delays, q[1]: (q[2], names, delays)}
+            q = q[3]
+        if q[0] != tree[0]:
+            return False
+        if q[0] == "name":
+            return names.get(q[1]) == tree[1]
+        if q[0] == "fn":
+            return q[1] == tree[1] and fits(q[3], tree[3], {**names, q[2]: tree[2]}, delays)
+        if q[0] == "let":
+            return fits(q[2], tree[2], names, delays) and fits(q[3], tree[3], {**names, q[1]: tree[1]}, delays)
+        if atoms_of(q) != atoms_of(tree):
+            return False
+        return all(fits(a, b, names, delays) for a, b in zip(children_of(q), children_of(tree)))
+
+    return fits(plain, Expansion(program).plain, {}, {})
+
+
+def atoms_of(node):
+    """What stands in a plain expression besides expressions."""
+    if node[0] == "switch":
+        return node[:2] + tuple([number for number, _ in node[2]])
+    return tuple([thing for thing in node if not isinstance(thing, tuple)])
+
+
+def children_of(node):
+    """The expressions that stand directly in a plain expression."""
+    if node[0] == "switch":
+        return [branch for _, branch in node[2]] + [node[3]]
+    return [thing for thing in node[1:] if isinstance(thing, tuple)]
+
+
 def nodes_of(plain):
     """All expressions in a plain expression, itself included."""
     found = []
@@ -289,8 +333,5 @@ def nodes_of(plain):
     while todo:
         node = todo.pop()
         found.append(node)
-        if node[0] == "switch":
-            todo.extend([branch for _, branch in node[2]] + [node[3]])
-        else:
-            todo.extend([thing for thing in node[1:] if isinstance(thing, tuple)])
+        todo.extend(children_of(node))
     return found

@@ -13,6 +13,9 @@ INTERFACE = {
     "tower.py": {"run": ["program", "fuel"]},
     "plain.py": {"run_plain": ["plain", "fuel"], "plain_size": ["plain"]},
     "collapsing.py": {"collapse": ["program"]},
+    "judge.py": {"is_collapse": ["program", "plain"]},
+    "compiler.py": {"compile_plain": ["plain"]},
+    "machine.py": {"run_code": ["code", "fuel"]},
 }
 
 

@@ -47,12 +47,16 @@ def zeroth(*things):
 
 
 class PlainTest(unittest.TestCase):
+    def runs(self, plain, fuel):
+        """The run of a plain program; the tests of the machine put another one here."""
+        return run_plain(plain, fuel)
+
     def check(self, plain, outputs, end, steps=0):
         """The plain program has this run, with just enough fuel and with more; with less fuel a part of it."""
         for fuel in (steps, steps + 1, steps + 7, 2000):
-            self.assertEqual(run_plain(plain, fuel), (outputs, end), (plain, fuel))
+            self.assertEqual(self.runs(plain, fuel), (outputs, end), (plain, fuel))
         for fuel in range(steps):
-            found, found_end = run_plain(plain, fuel)
+            found, found_end = self.runs(plain, fuel)
             self.assertEqual(found_end, MORE, (plain, fuel))
             self.assertEqual(found, outputs[:len(found)], (plain, fuel))
 
@@ -85,7 +89,7 @@ class FormsTest(PlainTest):
         self.check(("less", 0, TWO, ONE), (), value(0))
         self.check(("if", 0, say(0), say(1), say(2)), zeroth(0, 2), value(2))
         self.check(("if", 0, say(-1), say(1), say(2)), zeroth(-1, 1), value(1))
-        self.assertIs(run_plain(("less", 0, ONE, TWO), 0)[1][1].__class__, int)
+        self.assertIs(self.runs(("less", 0, ONE, TWO), 0)[1][1].__class__, int)
 
     def test_say(self):
         self.check(("say", 4, ("say", 2, ("num", 9))), ((2, 9), (4, 9)), value(9))
@@ -94,12 +98,12 @@ class FormsTest(PlainTest):
     def test_tick(self):
         self.check(("tick", say(1)), zeroth(1), value(1), 1)
         self.check(("sum", 0, say(1), ("tick", ("tick", say(2)))), zeroth(1, 2), value(3), 2)
-        self.assertEqual(run_plain(("tick", say(1)), 0), ((), MORE))
+        self.assertEqual(self.runs(("tick", say(1)), 0), ((), MORE))
 
     def test_calls_are_steps(self):
         loop = ("fn", 0, "w", row(say(1), ("call", 0, ("name", "w"), ("name", "w"))))
         for fuel in (0, 1, 2, 50, 2000):
-            self.assertEqual(run_plain(("call", 0, loop, loop), fuel), (zeroth(1) * fuel, MORE))
+            self.assertEqual(self.runs(("call", 0, loop, loop), fuel), (zeroth(1) * fuel, MORE))
 
     def test_unbound_names_where_nothing_is_evaluated(self):
         self.check(("if", 0, ONE, TWO, X), (), value(2))
@@ -219,10 +223,10 @@ class StuckTest(PlainTest):
             self.check(("call", k, function, say(2)), zeroth(2), value(2), 1)
 
     def test_the_function_is_looked_at_before_the_step(self):
-        self.assertEqual(run_plain(("call", 0, ONE, say(2)), 0), (zeroth(2), stuck(0)))
-        self.assertEqual(run_plain(("call", 0, ("fn", 1, "x", X), say(2)), 0), (zeroth(2), stuck(0)))
-        self.assertEqual(run_plain(("call", 0, FN, say(2)), 0), (zeroth(2), MORE))
-        self.assertEqual(run_plain(("call", 0, FN, ("tick", ONE)), 1), ((), MORE))
+        self.assertEqual(self.runs(("call", 0, ONE, say(2)), 0), (zeroth(2), stuck(0)))
+        self.assertEqual(self.runs(("call", 0, ("fn", 1, "x", X), say(2)), 0), (zeroth(2), stuck(0)))
+        self.assertEqual(self.runs(("call", 0, FN, say(2)), 0), (zeroth(2), MORE))
+        self.assertEqual(self.runs(("call", 0, FN, ("tick", ONE)), 1), ((), MORE))
 
 
 class DepthTest(PlainTest):
@@ -233,9 +237,9 @@ class DepthTest(PlainTest):
         ):
             plain = nested(19999, ONE, wrap)
             self.assertEqual(plain_size(plain), 20000)
-            self.assertEqual(run_plain(plain, 20000), ((), value(end)))
+            self.assertEqual(self.runs(plain, 20000), ((), value(end)))
         plain = nested(19999, ONE, lambda e: ("say", 3, e))
-        self.assertEqual(run_plain(plain, 0), (((3, 1),) * 19999, value(1)))
+        self.assertEqual(self.runs(plain, 0), (((3, 1),) * 19999, value(1)))
 
     def test_two_expressions_in_each(self):
         for wrap, end in (
@@ -247,9 +251,9 @@ class DepthTest(PlainTest):
         ):
             plain = nested(9999, ONE, wrap)
             self.assertIn(plain_size(plain), (19999, 29998))
-            self.assertEqual(run_plain(plain, 20000), ((), value(end)))
+            self.assertEqual(self.runs(plain, 20000), ((), value(end)))
         plain = nested(9999, ONE, lambda e: ("switch", 1, ((1, e),), TWO))
-        self.assertEqual(run_plain(("set", 1, 1, plain), 0), ((), value(1)))
+        self.assertEqual(self.runs(("set", 1, 1, plain), 0), ((), value(1)))
 
     def test_delays_that_force_one_another(self):
         plain = ("delay", "d", say(7), nested(9998, D, lambda e: ("delay", "d", D, e)))
@@ -264,10 +268,10 @@ class DepthTest(PlainTest):
         count = ("fn", 0, "f", ("fn", 0, "n", ("if", 0, ("name", "n"), ("sum", 0, ONE, again), ("num", 0))))
         for n in (0, 1, 999):
             plain = ("let", "f", count, ("call", 0, ("call", 0, ("name", "f"), ("name", "f")), ("num", n)))
-            self.assertEqual(run_plain(plain, 2 * n + 2), ((), value(n)))
-            self.assertEqual(run_plain(plain, 2 * n + 1), ((), MORE))
+            self.assertEqual(self.runs(plain, 2 * n + 2), ((), value(n)))
+            self.assertEqual(self.runs(plain, 2 * n + 1), ((), MORE))
         loop = ("fn", 0, "w", ("sum", 0, ONE, ("set", 1, 1, ("call", 0, ("name", "w"), ("name", "w")))))
-        self.assertEqual(run_plain(("call", 0, loop, loop), 2000), ((), MORE))
+        self.assertEqual(self.runs(("call", 0, loop, loop), 2000), ((), MORE))
 
     def test_many_expressions_between_two_steps(self):
         plain = ("force", "d16")

@@ -6,47 +6,21 @@ collapse may be deeper than Python lets functions call.
 """
 
 from ziggurat.errors import LimitError
-from ziggurat.numbering import Rules, switch_number
-from ziggurat.shapes import ASKS, KINDS, PART_COUNTS, part_of
+from ziggurat.numbering import Rules
+from ziggurat.places import Place, Site
+from ziggurat.shapes import ASKS, PART_COUNTS
 
 MAX_NODES = 20000
-
-
-class Place:
-    """Where an expression stands: its level, the names in the collapse of the names that it has, and its site.
-
-    The site is what the rule around it is about, None outside of rules.
-    """
-
-    def __init__(self, level, names, site):
-        self.level = level
-        self.names = names
-        self.site = site
-
-    def bind(self, name, chosen):
-        """Return a place of the same level that has one more name."""
-        return Place(self.level, {**self.names, name: chosen}, self.site)
-
-
-class Site:
-    """An expression that rules are about, with its place.
-
-    delayed has the names under which the collapses of its parts are delayed, by
-    the numbers of the parts, and of it in the built-in way, by "usual".
-    """
-
-    def __init__(self, node, place, delayed):
-        self.node = node
-        self.place = place
-        self.delayed = delayed
 
 
 class Writer:
     """Writes the collapse of a program as a row of items in the order of its text.
 
     An item is ("head", head, count), a head that is followed by the items of so
-    many expressions in it, or ("visit", node, place), which stands for the
-    items of a collapse that is still to be written.
+    many expressions in it, or ("visit", expression, place), which stands for
+    the items of a collapse that is still to be written. The names of a place
+    lead to the names that are chosen for them. Known of a site is under which
+    names its parts, and it in the built-in way, are delayed.
     """
 
     def __init__(self, rules):
@@ -56,7 +30,7 @@ class Writer:
     def heads(self):
         """Return the pairs (head, count) of the whole collapse."""
         found = []
-        todo = [("visit", self.rules.numbered, Place(0, {}, None))]
+        todo = [("visit", self.rules.top, Place({}, None))]
         while todo:
             word, thing, more = todo.pop()
             if word == "visit":
@@ -72,95 +46,96 @@ class Writer:
         self.chosen += 1
         return f"{word}-{self.chosen}"
 
-    def write(self, node, place):
+    def write(self, expression, place):
         """Return the items of a collapse of an expression."""
-        if node[0] in ASKS:
-            return self.write_ask(node, place)
-        if node[0] in KINDS and switch_number(place.level, node[0]) in self.rules.rows:
-            return self.write_switch(node, place)
-        return self.write_built_in(node, place, {})
+        if expression.word in ASKS:
+            return self.write_ask(expression, place)
+        if self.rules.has_switch(expression):
+            return self.write_switch(expression, place)
+        return self.write_built_in(expression, place, {})
 
-    def write_switch(self, node, place):
+    def write_switch(self, expression, place):
         """Return the items of a switch, within delays of what is due at several places in it."""
-        switch = switch_number(place.level, node[0])
-        site = Site(node, place, {})
-        items = self.write_delayed_parts(site, self.rules.asked[switch])
-        last = self.write_built_in(node, place, site.delayed)
-        if "usual" in self.rules.asked[switch]:
+        asked = self.rules.asked[expression.switch]
+        site = Site(expression, place, {})
+        items = self.write_delayed_parts(site, asked)
+        last = self.write_built_in(expression, place, site.known)
+        if "usual" in asked:
             name = self.choose("usual")
-            site.delayed["usual"] = name
+            site.known["usual"] = name
             items.extend([_head(("delay", name), 2), *last])
             last = [_head(("force", name), 0)]
-        rows = self.rules.rows[switch]
-        items.append(_head(("switch", switch, [number for number, _ in rows]), len(rows) + 1))
-        items.extend([("visit", rule, Place(place.level + 1, {}, site)) for _, rule in rows])
+        rows = self.rules.rows[expression.switch]
+        items.append(_head(("switch", expression.switch, [number for number, _ in rows]), len(rows) + 1))
+        items.extend([("visit", rule, Place({}, site)) for _, rule in rows])
         return items + last
 
     def write_delayed_parts(self, site, asked):
         """Return the items of delays of the parts for which some rule asks; the others are due only once."""
         items = []
-        for i in range(PART_COUNTS[site.node[0]]):
+        for i in range(PART_COUNTS[site.below.word]):
             if i in asked:
                 name = self.choose("part")
-                site.delayed[i] = name
-                items.extend([_head(("delay", name), 2), ("visit", part_of(site.node, i), site.place)])
+                site.known[i] = name
+                items.extend([_head(("delay", name), 2), ("visit", site.part(i), site.place)])
         return items
 
-    def write_built_in(self, node, place, delayed):
+    def write_built_in(self, expression, place, delayed):
         """Return the items of a collapse in the built-in way; some of the parts may be delayed."""
-        word = node[0]
-        if word in ("num", "put"):
+        word, node, inner = expression.word, expression.node, expression.inner
+        if word == "num":
             return [_head(node, 0)]
         if word == "name":
             return [_head(("name", place.names[node[1]]), 0)]
-        if word == "set":
-            return [_head(node[:3], 1), ("visit", node[3], place)]
+        if word == "rule":
+            return [_head(("set", expression.switch, expression.rule), 1), ("visit", inner[1], place)]
+        if word == "keep":
+            return [_head(("put", expression.switch, expression.rule), 0)]
         if word == "fn":
             chosen = self.choose(node[1])
-            return [_head(("fn", place.level, chosen), 1), ("visit", node[2], place.bind(node[1], chosen))]
-        parts = self.write_parts(node, place, delayed)
+            return [_head(("fn", expression.level, chosen), 1), ("visit", inner[0], place.bind(node[1], chosen))]
+        parts = self.write_parts(expression, place, delayed)
         if word == "let":
             chosen = self.choose(node[1])
-            return [_head(("let", chosen), 2), *parts, ("visit", node[3], place.bind(node[1], chosen))]
-        return [_head((word, place.level), len(parts)), *parts]
+            return [_head(("let", chosen), 2), *parts, ("visit", inner[1], place.bind(node[1], chosen))]
+        return [_head((word, expression.level), len(parts)), *parts]
 
-    def write_parts(self, node, place, delayed):
+    def write_parts(self, expression, place, delayed):
         """Return the items of the parts of an expression: forces of the delayed ones, collapses of the others."""
         items = []
-        for i in range(PART_COUNTS[node[0]]):
+        for i in range(PART_COUNTS[expression.word]):
             if i in delayed:
                 items.append(_head(("force", delayed[i]), 0))
             else:
-                items.append(("visit", part_of(node, i), place))
+                items.append(("visit", expression.inner[i], place))
         return items
 
-    def write_ask(self, node, place):
+    def write_ask(self, expression, place):
         """Return the items of a collapse of an ask."""
-        if node[0] == "with":
-            return self.write_with(node, place)
-        if node[0] == "do":
-            return self.write_do(node, place)
-        name = place.site.delayed[node[1] if node[0] == "part" else "usual"]
+        if expression.word == "with":
+            return self.write_with(expression, place)
+        if expression.word == "do":
+            return self.write_do(expression, place)
+        name = place.site.known["usual" if expression.word == "usual" else expression.node[1]]
         return [_head(("tick",), 1), _head(("force", name), 0)]
 
-    def write_with(self, node, place):
+    def write_with(self, expression, place):
         """Return the items of a let of the name of the let below, around a collapse of that let's body."""
-        about = place.site
-        name = about.node[1]
-        chosen = self.choose(name)
-        body = ("visit", about.node[3], about.place.bind(name, chosen))
-        return [_head(("let", chosen), 2), ("visit", node[1], place), _head(("tick",), 1), body]
+        site = place.site
+        chosen = self.choose(site.below.node[1])
+        body = ("visit", site.body_of_let(), site.place_of_body(chosen))
+        return [_head(("let", chosen), 2), ("visit", expression.inner[0], place), _head(("tick",), 1), body]
 
-    def write_do(self, node, place):
+    def write_do(self, expression, place):
         """Return the items of a let for each part, around the operation of the expression below."""
-        about = place.site
+        below = place.site.below
         items = []
         names = []
-        for part in node[1]:
+        for part in expression.inner:
             chosen = self.choose("do")
             items.extend([_head(("let", chosen), 2), ("visit", part, place)])
             names.append(_head(("name", chosen), 0))
-        operation = _head((about.node[0], about.place.level), len(names))
+        operation = _head((below.word, below.level), len(names))
         return [*items, _head(("tick",), 1), operation, *names]
 
 

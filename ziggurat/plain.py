@@ -5,7 +5,8 @@ of what is still to do, because a plain program may be deeper than Python lets
 functions call.
 """
 
-from ziggurat.runs import Function, Run, look_up
+from ziggurat.plainshapes import inner_plain
+from ziggurat.runs import Function, Walk, look_up
 
 
 class Scope:
@@ -26,7 +27,7 @@ class Scope:
 
 def run_plain(plain, fuel):
     """Return the run of a plain program: the pair of its outputs and its end."""
-    going = Run(fuel)
+    going = Walk(fuel)
     going.visit(plain, Scope(None, None))
     while going.is_going():
         word, thing, scope = going.todo.pop()
@@ -41,15 +42,8 @@ def plain_size(plain):
     todo = [plain]
     while todo:
         nodes += 1
-        todo.extend(_inner_expressions(todo.pop()))
+        todo.extend(inner_plain(todo.pop()))
     return nodes
-
-
-def _inner_expressions(node):
-    """Return the expressions that stand directly in an expression."""
-    if node[0] == "switch":
-        return [branch for _, branch in node[2]] + [node[3]]
-    return [thing for thing in node[1:] if isinstance(thing, tuple)]
 
 
 def _visit(going, node, scope):
@@ -66,7 +60,7 @@ def _name(going, node, scope):
 
 
 def _fn(going, node, scope):
-    going.stack.append(Function(node[1], node[2], node[3], scope))
+    going.stack.append(Function(node[1], (node[2], node[3]), scope))
 
 
 def _operation(going, node, scope):

@@ -1,4 +1,4 @@
-"""What the runs of towers and of plain programs have in common: values, steps, outputs and ends.
+"""What the runs of towers, of plain programs and of code have in common: values, steps, outputs and ends.
 
 Values are integers and objects of Function. A run keeps its own stacks, so that
 programs may nest their calls as deeply as the fuel allows.
@@ -6,11 +6,13 @@ programs may nest their calls as deeply as the fuel allows.
 
 
 class Function:
-    """A function: the level that it belongs to, its name and its body, and the scope that it keeps."""
+    """A function: the level that it belongs to, its body, and the scope that it keeps.
 
-    def __init__(self, level, name, body, scope):
+    What body and scope are is up to the kind of run.
+    """
+
+    def __init__(self, level, body, scope):
         self.level = level
-        self.name = name
         self.body = body
         self.scope = scope
 
@@ -18,29 +20,74 @@ class Function:
 class Run:
     """A run that is going on.
 
-    todo holds triples (word, thing, scope), the next one last; ("visit", e,
-    scope) is the evaluation of an expression, what other words mean is up to
-    the interpreter. stack holds the values that have been found and not used.
-    settings holds what can be set and set back: rules in force, or switches.
+    stack holds the values that have been found and not used. settings holds
+    what can be set and set back: rules in force, or switches. Each kind of run
+    has a method apply(function, value).
     """
 
     def __init__(self, fuel):
         self.fuel = fuel
         self.outputs = []
         self.end = None
-        self.todo = []
         self.stack = []
         self.settings = {}
 
-    def is_going(self):
-        """Tell whether something is left to do."""
-        return self.end is None and len(self.todo) > 0
-
     def result(self):
         """Return the pair of the outputs and the end of a run that goes on no more."""
-        if self.end is None:
-            self.end = ("value", _shown(self.stack[-1]))
         return tuple(self.outputs), self.end
+
+    def finish(self):
+        """End the run with the value that has been found last."""
+        self.end = ("value", _shown(self.stack[-1]))
+
+    def get_stuck(self, level):
+        """End the run as one that is stuck at a level."""
+        self.end = ("stuck", level)
+
+    def step(self):
+        """Take a step, or end the run if the fuel is used up; tell whether the run goes on."""
+        if self.fuel == 0:
+            self.end = ("more",)
+            return False
+        self.fuel -= 1
+        return True
+
+    def operate(self, word, level):
+        """Do the operation of a call, sum, less or say with the values that have been found last."""
+        operation = OPERATIONS[word]
+        operation(self, level)
+
+    def decide(self, level):
+        """Tell whether the value that has been found last is not 0; get stuck, and tell None, if it is no integer."""
+        condition = self.stack.pop()
+        if isinstance(condition, Function):
+            self.get_stuck(level)
+            return None
+        return condition != 0
+
+    def set_on(self, key, setting):
+        """Set something for all that follows; the value of this is 0."""
+        self.settings[key] = setting
+        self.stack.append(0)
+
+
+class Walk(Run):
+    """A run that walks through expressions.
+
+    todo holds triples (word, thing, scope), the next one last; ("visit", e,
+    scope) is the evaluation of an expression, what other words mean is up to
+    the interpreter.
+    """
+
+    def __init__(self, fuel):
+        Run.__init__(self, fuel)
+        self.todo = []
+
+    def is_going(self):
+        """Tell whether something is left to do, otherwise end the run."""
+        if self.end is None and not self.todo:
+            self.finish()
+        return self.end is None
 
     def visit(self, expression, scope):
         """Have an expression evaluated before all else that is still to do."""
@@ -51,41 +98,22 @@ class Run:
         for expression in reversed(expressions):
             self.visit(expression, scope)
 
-    def step(self):
-        """Take a step, or end the run if the fuel is used up; tell whether the run goes on."""
-        if self.fuel == 0:
-            self.end = ("more",)
-            return False
-        self.fuel -= 1
-        return True
-
-    def get_stuck(self, level):
-        """End the run as one that is stuck at a level."""
-        self.end = ("stuck", level)
-
-    def operate(self, word, level):
-        """Do the operation of a call, sum, less or say with the values that have been found last."""
-        operation = OPERATIONS[word]
-        operation(self, level)
+    def apply(self, function, value):
+        """Have the body of a function evaluated, with its name bound to a value."""
+        name, body = function.body
+        self.visit(body, function.scope.bind(name, value))
 
     def choose(self, level, branches, scope):
         """Visit the first branch if the value that has been found last is not 0, otherwise the second one."""
-        condition = self.stack.pop()
-        if isinstance(condition, Function):
-            self.get_stuck(level)
-        else:
-            self.visit(branches[0] if condition != 0 else branches[1], scope)
+        decision = self.decide(level)
+        if decision is not None:
+            self.visit(branches[0] if decision else branches[1], scope)
 
     def set_for(self, key, setting, body, scope):
         """Set something while the body is evaluated."""
         self.todo.append(("restore", (key, self.settings.get(key, 0)), scope))
         self.visit(body, scope)
         self.settings[key] = setting
-
-    def set_on(self, key, setting):
-        """Set something for all that follows; the value of this is 0."""
-        self.settings[key] = setting
-        self.stack.append(0)
 
     def restore(self, change):
         """Undo what has been set for a body that has been evaluated."""
@@ -116,7 +144,7 @@ def _call(run, level):
     if not isinstance(function, Function) or function.level != level:
         run.get_stuck(level)
     elif run.step():
-        run.visit(function.body, function.scope.bind(function.name, value))
+        run.apply(function, value)
 
 
 def _sum(run, level):

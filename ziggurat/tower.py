@@ -4,7 +4,7 @@ What is set in a run is the rule in force for each pair of a level and a kind, 0
 for the built-in one.
 """
 
-from ziggurat.runs import Function, Run, look_up
+from ziggurat.runs import Function, Walk, look_up
 from ziggurat.shapes import part_of
 
 
@@ -27,7 +27,7 @@ class Place:
 
 def run(program, fuel):
     """Return the run of a program: the pair of its outputs and its end."""
-    going = Run(fuel)
+    going = Walk(fuel)
     going.visit(program, Place(0, None, None))
     while going.is_going():
         word, thing, place = going.todo.pop()
@@ -60,7 +60,7 @@ def _name(going, node, place):
 
 
 def _fn(going, node, place):
-    going.stack.append(Function(place.level, node[1], node[2], place))
+    going.stack.append(Function(place.level, (node[1], node[2]), place))
 
 
 def _operation(going, node, place):

@@ -155,7 +155,7 @@ def mutant(random, plain):
     """The plain program with one small change, which leaves it plain in form."""
     path = random.choice(paths_of(plain))
     node = at_path(plain, path)
-    changes = [changed_atom, other_expression, other_order, wrapped, unwrapped, other_word, other_branches]
+    changes = [changed_atom, other_expression, other_order, wrapped, unwrapped, other_word, other_branches, forced]
     random.shuffle(changes)
     for change in changes:
         changed = change(random, node, plain)
@@ -203,6 +203,12 @@ def other_word(random, node, _):
     words = {"sum": "less", "less": "call", "call": "sum", "let": "delay", "delay": "let", "name": "force",
              "force": "name"}
     return (words[node[0]],) + node[1:] if node[0] in words else None
+
+
+def forced(random, _, plain):
+    """A force of something that is delayed somewhere."""
+    names = [node[1] for node in [at_path(plain, path) for path in paths_of(plain)] if node[0] == "delay"]
+    return ("force", random.choice(names)) if names else None
 
 
 def other_branches(random, node, _):

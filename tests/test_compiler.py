@@ -86,7 +86,8 @@ class CodeTest(unittest.TestCase):
             (("delay", "d", ONE, ("delay", "d", D, D)), ("delay", "d", ONE, ("delay", "e", D, ("force", "e")))),
             (("let", "x", ONE, ("delay", "d", X, ("let", "x", TWO, ("sum", 0, D, X)))),
              ("let", "x", ONE, ("delay", "d", X, ("let", "z", TWO, ("sum", 0, D, z))))),
-            (("if", 0, ONE, TWO, X), ("if", 0, ONE, TWO, Y)), (("if", 0, ONE, TWO, D), ("if", 0, ONE, TWO, ("force", ""))),
+            (("if", 0, ONE, TWO, X), ("if", 0, ONE, TWO, Y)),
+            (("if", 0, ONE, TWO, D), ("if", 0, ONE, TWO, ("force", ""))),
         ):
             self.assertEqual(compile_plain(first), compile_plain(second), (first, second))
 

@@ -253,7 +253,10 @@ class AskTest(JudgeTest):
                     made(("let", "x", ("num", 5), ("tick", ("sum", 0, X, X))), "z"))
         self.refuse(text, made(("let", "y", ("num", 5), ("sum", 0, Y, Y))), made(("sum", 0, X, X)),
                     made(("let", "y", ("num", 5), ("tick", ("sum", 0, Y, X)))),
-                    made(("tick", ("let", "y", ("num", 6), ("sum", 0, Y, Y)))))
+                    made(("tick", ("let", "y", ("num", 6), ("sum", 0, Y, Y)))),
+                    made(("let", "y", ("num", 5), ("set", 9, 1, ("sum", 0, Y, Y)))),
+                    made(("let", "y", ("num", 5), ("delay", "d", ("sum", 0, Y, Y), D))),
+                    made(("call", 1, ("fn", 1, "y", ("tick", ("sum", 0, Y, Y))), ("num", 5))))
         self.refuse_alike(text, made(("tick", ("let", "y", ("num", 5), ("sum", 0, Y, Y)))),
                           made(("let", "y", ("num", 5), ("tick", ("sum", 1, Y, Y)))),
                           made(("let", "y", ("num", 5), ("tick", ("let", "x", Y, ("sum", 0, Y, X))))))
@@ -378,6 +381,22 @@ class DelayTest(JudgeTest):
                     right(num(1), D, ("d", num(1))))
         self.refuse(text, right(D, D, ("d", num(2))), right(num(1), D, ("d", ONE)), right(D, D, ("d", num(3))))
 
+    def test_the_same_expression_in_the_built_in_way(self):
+        """What is delayed is due either as a whole or in the built-in way, also where it is equal expressions."""
+        text = "(rule less 1 (rule say 2 (less (say 3) (say 3))))"
+        usual = ("say", 0, ("num", 3))
+
+        def say(last):
+            return ("switch", 8, ((2, TWO),), last)
+
+        def made(first, second, delayed):
+            return ("set", 5, 1, ("set", 8, 2, ("delay", "d", delayed, (
+                "switch", 5, ((1, ONE),), ("less", 0, first, second)))))
+        self.accept(text, made(say(usual), say(usual), ONE), made(say(D), say(D), usual), made(D, D, say(usual)),
+                    made(D, say(usual), say(usual)), made(say(D), say(usual), usual))
+        self.refuse(text, made(D, say(D), usual), made(say(D), D, usual), made(D, say(D), say(usual)),
+                    made(say(D), D, say(usual)), made(D, D, usual), made(say(D), say(D), say(usual)))
+
     def test_names_in_what_is_delayed(self):
         text = "(fn x (rule sum (fn z (part 0)) (let y 1 (sum x y))))"
 
@@ -392,19 +411,45 @@ class DelayTest(JudgeTest):
         self.refuse(text, made(("fn", 1, "z", ("tick", D)), Y), made(("fn", 1, "x", ("tick", X)), X),
                     made(("fn", 1, "z", ("tick", D)), ("name", "z")), made(("fn", 1, "z", ("tick", ("name", "d"))), X))
 
+    def less(self, first, second, delayed):
+        """A collapse of a less within a fn, with something delayed around its switch."""
+        return ("fn", 0, "x", ("set", 5, 1, ("delay", "d", delayed, (
+            "switch", 5, ((1, ONE),), ("less", 0, first, second)))))
+
     def test_each_name_leads_to_the_same_binding(self):
         """A force stands for equal expressions, but only where their names lead to the same bindings."""
-        text = "(fn x (rule less 1 (less (say x) (let x 2 (say x)))))"
+        for e, say in (("(say x)", ("say", 0, X)), ("(let x x 3)", ("let", "z", X, ("num", 3))),
+                       ("(sum x (let x x x))", ("sum", 0, X, ("let", "y", X, Y)))):
+            inner = ("let", "x", TWO, say)
+            text = f"(fn x (rule less 1 (less {e} (let x 2 {e}))))"
+            self.accept(text, self.less(say, inner, ONE), self.less(D, inner, say))
+            self.refuse(text, self.less(say, ("let", "x", TWO, D), say), self.less(D, ("let", "x", TWO, D), say))
+            text = f"(fn x (rule less 1 (less (let x 2 {e}) {e})))"
+            self.accept(text, self.less(inner, say, ONE), self.less(inner, D, say))
+            self.refuse(text, self.less(("let", "x", TWO, D), say, say), self.less(("let", "x", TWO, D), D, say))
+            other = ("let", "y", TWO, D)
+            self.accept(f"(fn x (rule less 1 (less {e} (let y 2 {e}))))", self.less(D, other, say))
+            self.accept(f"(fn x (rule less 1 (less (let y 2 {e}) {e})))", self.less(other, D, say))
 
-        def made(first, second, delayed):
-            return ("fn", 0, "x", ("set", 5, 1, ("delay", "d", delayed, (
-                "switch", 5, ((1, ONE),), ("less", 0, first, ("let", "x", TWO, second))))))
-        say = ("say", 0, X)
-        self.accept(text, made(say, say, ONE), made(D, say, say))
-        self.refuse(text, made(say, D, say), made(D, D, say))
-        text = "(fn x (rule less 1 (less (say x) (let y 2 (say x)))))"
-        self.accept(text, made(D, D, say), made(say, D, say), made(D, ("force", "d"), say))
-        self.refuse(text, made(say, say, ONE), made(D, say, say))
+    def test_equal_expressions_only(self):
+        """What is delayed is right at one of two places."""
+        x = ("fn", 0, "a", ("fn", 0, "b", ("name", "a")))
+        y = ("fn", 0, "a", ("fn", 0, "b", ("name", "b")))
+        for first, one, second, two in (
+            ("1", ONE, "2", TWO), ("x", X, "1", ONE), ("(fn x (fn y x))", x, "(fn x (fn y y))", y),
+            ("(sum 1 1)", ("sum", 0, ONE, ONE), "1", ONE),
+            ("(sum 1 2)", ("sum", 0, ONE, TWO), "(sum 2 1)", ("sum", 0, TWO, ONE)),
+            ("(call 1 2)", ("call", 0, ONE, TWO), "(sum 1 2)", ("sum", 0, ONE, TWO)),
+        ):
+            for texts, things in (((first, second), (one, two)), ((second, first), (two, one))):
+                text = f"(fn x (rule less (fn z z) (less {texts[0]} {texts[1]})))"
+                branch = (1, ("fn", 1, "z", ("name", "z")))
+
+                def made(left, right, delayed):
+                    return ("fn", 0, "x", ("set", 5, 1, ("delay", "d", delayed, (
+                        "switch", 5, (branch,), ("less", 0, left, right)))))
+                self.accept(text, made(*things, ONE), made(D, things[1], things[0]), made(things[0], D, things[1]))
+                self.refuse(text, made(D, D, one), made(D, D, two), made(D, things[1], things[1]))
 
     def test_rules_within_what_is_forced_twice(self):
         """Rules have numbers of their own, so that expressions with rules are equal to no others."""
@@ -428,14 +473,16 @@ class FormTest(JudgeTest):
     def test_nothing_else_than_plain_programs(self):
         for other in (None, True, False, 0, 1, "", "num", b"num", 1.0, [], {}, (), ((),), ("num",), ("num", 1, 1),
                       ["num", 1], ("num", True), ("num", 1.0), ("num", "1"), ("num", None), ("num", (1,)), ("numb", 1),
-                      (1, 1), (("num", 1),), (None, 1), ("num", ONE), (b"num", 1), ("NUM", 1), ("num", [1])):
+                      (1, 1), (("num", 1),), (None, 1), (["num"], 1), ({}, 1), ("num", ONE), (b"num", 1), ("NUM", 1),
+                      ("num", [1])):
             self.refuse("1", other)
 
     def test_in_each_place(self):
         for right in (("name", "x"), ("fn", 0, "x", ONE), ("call", 0, ONE, ONE), ("sum", 0, ONE, ONE),
                       ("less", 0, ONE, ONE), ("if", 0, ONE, ONE, ONE), ("let", "x", ONE, ONE), ("say", 0, ONE),
                       ("delay", "x", ONE, ONE), ("force", "x"), ("tick", ONE), ("set", 0, 0, ONE), ("put", 0, 0),
-                      ("switch", 0, (), ONE), ("switch", 0, ((1, ONE), (3, ONE)), ONE), ("switch", 7, ((2, ONE),), ONE)):
+                      ("switch", 0, (), ONE), ("switch", 0, ((1, ONE), (3, ONE)), ONE),
+                      ("switch", 7, ((2, ONE),), ONE)):
             self.check_junk(right, True)
             self.check_junk(right + (ONE,), False)
             self.check_junk(right[:-1], False)
@@ -465,7 +512,8 @@ class FormTest(JudgeTest):
         self.refuse("(say (fn x 1))", ("say", 0, ("fn", False, "x", ONE)))
         self.refuse("(keep name 1)", ("put", True, 1), ("put", 1, True))
         self.refuse("(rule num 1 1)", ("set", False, 1, ("switch", 0, ((1, ONE),), ONE)),
-                    ("set", 0, True, ("switch", 0, ((1, ONE),), ONE)), ("set", 0, 1, ("switch", 0, ((True, ONE),), ONE)),
+                    ("set", 0, True, ("switch", 0, ((1, ONE),), ONE)),
+                    ("set", 0, 1, ("switch", 0, ((True, ONE),), ONE)),
                     ("set", 0, 1, ("switch", False, ((1, ONE),), ONE)))
 
     def test_nothing_is_a_collapse_of_no_program(self):
@@ -575,8 +623,9 @@ class ManyProgramsTest(JudgeTest):
         """Programs whose collapses without delays are not too large."""
         found = []
         while len(found) < many:
-            maker = Maker(rng)
-            program = maker.program(rng.randrange(2, 6)) if rng.random() < 0.6 else random_program(rng, rng.randrange(7))
+            program = Maker(rng).program(rng.randrange(2, 6))
+            if rng.random() < 0.4:
+                program = random_program(rng, rng.randrange(7))
             if size(program)[0] <= 60 and height(program) <= 3:
                 try:
                     plain = Expansion(program).plain

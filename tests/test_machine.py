@@ -89,7 +89,8 @@ class FramesTest(Compiled, test_plain.PlainTest):
 
     def test_a_jump_over_everything(self):
         for condition, wanted in ((ONE, 11), (("num", 0), 21)):
-            branches = [row(say(n), ("if", 0, ONE, ("let", "x", ("num", n), ("sum", 0, X, ONE)), TWO)) for n in (10, 20)]
+            branches = [row(say(n), ("if", 0, ONE, ("let", "x", ("num", n), ("sum", 0, X, ONE)), TWO))
+                        for n in (10, 20)]
             self.check(("sum", 0, ("if", 0, condition, *branches), ("num", 0)), zeroth(wanted - 1), value(wanted))
 
     def test_stuck_deep_within_calls(self):

@@ -79,7 +79,8 @@ class LongRunsTest(WholeTest):
             self.check_long(f"(let f {COUNT} (rule {rule} (call (call f f) {n})))", (), ("value", end), steps)
 
     def test_rules_of_rules(self):
-        text = f"(let f {COUNT} (rule sum (rule sum (do (part 1) (part 0)) (sum (part 0) (part 1))) (call (call f f) 166)))"
+        text = (f"(let f {COUNT} (rule sum (rule sum (do (part 1) (part 0)) (sum (part 0) (part 1)))"
+                " (call (call f f) 166)))")
         self.check_long(text, (), ("value", 166), 166 * 12 + 2)
         text = f"(let f {COUNT} (rule sum (rule say (usual) (say (usual))) (call (call f f) 10)))"
         self.check(parse(text), (0, 1, 2, 50, 62, 63, 100, 2000))

@@ -120,7 +120,7 @@ class Disguise:
 
     def junk(self):
         return self.random.choice([
-            ("name", "nowhere"), ("force", "nowhere"), ("num", 7), ("sum", 3, ("num", 1), ("force", "later1")),
+            ("name", "nowhere"), ("force", "nowhere"), ("num", 7), ("sum", 3, ("num", 1), ("force", "nowhere")),
             ("delay", "x", ("num", 1), ("num", 2)), ("switch", 0, (), ("num", 1)),
             ("switch", 100, ((7, ("put", 3, 4)), (2, ("tick", ("num", 1)))), ("fn", 5, "", ("name", "")))])
 

@@ -1,5 +1,7 @@
 """Programs and texts that several tests share, and a maker of random programs."""
 
+import sys
+
 # Each form of point 13, with its printed text.
 FORMS = [
     ("0", ("num", 0)),
@@ -43,6 +45,14 @@ KINDS = ["num", "name", "fn", "call", "sum", "less", "if", "let", "say"]
 PARTS = {"num": 0, "name": 0, "fn": 0, "call": 2, "sum": 2, "less": 2, "if": 3, "let": 1, "say": 1}
 DOES = {"call": 2, "sum": 2, "less": 2, "say": 1}
 WORDS = KINDS + ["rule", "keep", "part", "with", "usual", "do"]
+
+
+class FewCalls:
+    """For tests of what must not depend on how deep functions of Python may call one another."""
+
+    def setUp(self):
+        self.addCleanup(sys.setrecursionlimit, sys.getrecursionlimit())
+        sys.setrecursionlimit(300)
 
 
 def random_program(random, depth, names=(), about=None):

@@ -1,7 +1,7 @@
 import random
 import unittest
 
-from tests.examples import FORMS, KINDS, PARTS, nested, random_program, text_of_nodes
+from tests.examples import FORMS, KINDS, PARTS, FewCalls, nested, random_program, text_of_nodes
 from tests.reference import Expansion, nodes_of, plainly_run_plain, with_even_names, without_delays
 from tests.running import Maker
 from ziggurat.collapsing import collapse
@@ -259,7 +259,7 @@ class ManyProgramsTest(CollapseTest):
         check(collapse(parse("(rule sum (do (part 0) (usual)) (rule let (with 1) (let x 1 (sum x x))))")))
 
 
-class SizeTest(CollapseTest):
+class SizeTest(FewCalls, CollapseTest):
     def test_each_part_and_built_in_way_stands_once(self):
         for text in (
             "(rule sum (sum (part 0) (sum (part 0) (sum (part 1) (usual)))) (sum 101 (sum 102 (sum 103 104))))",

@@ -2,7 +2,7 @@ import random
 import unittest
 
 from tests.disguise import Disguise, plain_tuples
-from tests.examples import FORMS, nested
+from tests.examples import FORMS, FewCalls, nested
 from tests.reference import nodes_of
 from tests.running import Maker
 from tests.test_plain import random_plain
@@ -135,7 +135,7 @@ class Fresh(list):
         return f"{'other' if list.__len__(self) % 2 else ''}{list.__len__(self)}"
 
 
-class DepthTest(unittest.TestCase):
+class DepthTest(FewCalls, unittest.TestCase):
     def check(self, plain, end):
         self.assertLessEqual(plain_size(plain), 20000)
         code = compile_plain(plain)

@@ -1,7 +1,7 @@
 import random
 import unittest
 
-from tests.examples import DOES, FORMS, KINDS, PARTS, WORDS, nested, random_program
+from tests.examples import DOES, FORMS, KINDS, PARTS, WORDS, FewCalls, nested, random_program
 from ziggurat.forms import height, is_well_formed, size
 
 ONE = ("num", 1)
@@ -73,7 +73,7 @@ def mutated(rng, tree):
     return tree[:at] + (mutated(rng, tree[at]),) + tree[at + 1:]
 
 
-class WellFormedTest(unittest.TestCase):
+class WellFormedTest(FewCalls, unittest.TestCase):
     def good(self, program):
         self.assertIs(is_well_formed(program), True, program)
 

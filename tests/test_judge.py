@@ -2,7 +2,7 @@ import random
 import unittest
 
 from tests.disguise import Disguise, at_path, mutant, paths_of, plain_tuples, put_at
-from tests.examples import FORMS, KINDS, nested, random_program
+from tests.examples import FORMS, KINDS, FewCalls, nested, random_program
 from tests.reference import Expansion, nodes_of, plainly_is_collapse
 from tests.running import Maker
 from ziggurat.collapsing import collapse
@@ -533,7 +533,7 @@ class FormTest(JudgeTest):
             self.assertIs(is_collapse(program, program), program[0] == "num" or text == "(let x 1 x)", text)
 
 
-class DepthTest(JudgeTest):
+class DepthTest(FewCalls, JudgeTest):
     def test_tuples_of_any_depth(self):
         program = parse("(rule num 1 (sum 1 2))")
         for wrap in (lambda e: (e,), lambda e: ("num", e), lambda e: (e, 1), lambda e: ("say", 0, e),

@@ -1,7 +1,7 @@
 import random
 import unittest
 
-from tests.examples import nested
+from tests.examples import FewCalls, nested
 from tests.reference import plainly_run_plain
 from ziggurat.plain import plain_size, run_plain
 
@@ -229,7 +229,7 @@ class StuckTest(PlainTest):
         self.assertEqual(self.runs(("call", 0, FN, ("tick", ONE)), 1), ((), MORE))
 
 
-class DepthTest(PlainTest):
+class DepthTest(FewCalls, PlainTest):
     def test_20000_nodes_within_one_another(self):
         for wrap, end in (
             (lambda e: ("tick", e), 1), (lambda e: ("set", 1, 1, e), 1), (lambda e: ("switch", 1, (), e), 1),

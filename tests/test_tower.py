@@ -1,7 +1,7 @@
 import random
 import unittest
 
-from tests.examples import FORMS, random_program
+from tests.examples import FORMS, FewCalls, random_program
 from tests.reference import plainly_run
 from tests.running import Maker
 from ziggurat.forms import height, is_well_formed, size
@@ -324,7 +324,7 @@ class StuckTest(RunTest):
         self.assertEqual(run(parse("(call (call (fn x x) (say 1)) (say 2))"), 1), (zeroth(1, 2), stuck(0)))
 
 
-class FuelTest(RunTest):
+class FuelTest(FewCalls, RunTest):
     def test_asks_begin_with_their_step(self):
         for text, found in (
             ("(rule sum (part 0) (sum (say 1) 2))", ()), ("(rule sum (usual) (sum (say 1) 2))", ()),

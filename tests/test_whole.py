@@ -3,7 +3,7 @@
 import random
 import unittest
 
-from tests.examples import FORMS, random_program
+from tests.examples import FORMS, FewCalls, random_program
 from tests.reference import plainly_run
 from tests.running import Maker
 from ziggurat.collapsing import collapse
@@ -59,7 +59,7 @@ class WholeTest(unittest.TestCase):
         self.assertEqual(ways[0](steps - 1), ways[2](steps - 1))
 
 
-class LongRunsTest(WholeTest):
+class LongRunsTest(FewCalls, WholeTest):
     def test_calls_within_calls(self):
         for n, steps in ((0, 2), (1, 4), (500, 1002), (999, 2000)):
             self.check_long(f"(let f {COUNT} (call (call f f) {n}))", (), ("value", n), steps)
